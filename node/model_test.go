@@ -40,12 +40,11 @@ type one struct {
 	size  int64
 	path  string           // of a link
 	names map[string]int64 // of a directory
-	old   map[string]bool  // which of these were so when all was safe, perhaps by another name or in another directory
-	had   []string         // all names, or sizes, since then
+	had   []string         // all names, or sizes, since all was safe
 }
 
 func newOne(id int64, slot, kind int, path string) *one {
-	return &one{id: id, slot: slot, kind: kind, links: 1, size: int64(len(path)), path: path, names: map[string]int64{}, old: map[string]bool{}}
+	return &one{id: id, slot: slot, kind: kind, links: 1, size: int64(len(path)), path: path, names: map[string]int64{}}
 }
 
 // now is what a thing has, as a text.
@@ -82,6 +81,7 @@ type machine struct {
 	next  int64
 	all   map[int64]*one
 	gone  map[int64]*one // since all was safe
+	keeps map[int64]bool // what had a name then, and ever since
 	open  [api.MaxOpen]int64
 	calls map[string]int // how often which call was let
 }
@@ -117,12 +117,10 @@ func (m *machine) safe() {
 	if m.d.Stopped() {
 		return
 	}
-	m.gone = map[int64]*one{}
-	for _, o := range m.all {
+	m.gone, m.keeps = map[int64]*one{}, map[int64]bool{}
+	for id, o := range m.all {
 		o.had = []string{o.now()}
-		for name := range o.names {
-			o.old[name] = true
-		}
+		m.keeps[id] = o.links > 0
 	}
 }
 
@@ -271,7 +269,11 @@ func (m *machine) joins(in *one, name string, o *one) {
 // lose takes a link from a thing.
 func (m *machine) lose(o *one) {
 	o.links--
-	if o.links == 0 && m.opens(o.id) == 0 {
+	if o.links > 0 {
+		return
+	}
+	delete(m.keeps, o.id)
+	if m.opens(o.id) == 0 {
 		m.drop(o)
 	}
 }
@@ -305,7 +307,6 @@ func (m *machine) cuts(in *one, name string) {
 	open := m.v.Store().Open()
 	if m.held(fmt.Sprintf("Cut(%d, %q)", in.slot, name), m.n.Cut(in.slot, name), want, open) {
 		delete(in.names, name)
-		delete(in.old, name)
 		in.remember()
 		m.lose(o)
 	}
@@ -366,10 +367,9 @@ func (m *machine) shifts(from *one, name string, to *one, other string) {
 	if !m.held(fmt.Sprintf("Shift(%d, %q, %d, %q)", from.slot, name, to.slot, other), e, want, open) || o == old {
 		return
 	}
-	to.names[other], to.old[other] = o.id, from.old[name]
+	to.names[other] = o.id
 	to.remember()
 	delete(from.names, name)
-	delete(from.old, name)
 	from.remember()
 	if old != nil {
 		m.calls["replaced"]++
@@ -654,11 +654,9 @@ func (m *machine) had(k *disked) {
 		}
 		m.whole(k.x, &one{id: id, slot: slot, kind: o.kind, path: o.path})
 	}
-	for _, o := range m.all {
-		for name, old := range o.old {
-			if _, kept := k.kept[o.names[name]]; old && !kept {
-				m.t.Errorf("behind a crash %d is lost: %v", o.names[name], k.names)
-			}
+	for id, keeps := range m.keeps {
+		if _, kept := k.kept[id]; keeps && !kept {
+			m.t.Errorf("behind a crash %d is lost: %v", id, k.names)
 		}
 	}
 }
@@ -837,6 +835,54 @@ func TestShiftAlone(t *testing.T) {
 				a, b := m.makes(root, "a", api.Dir, nil), m.makes(root, "b", api.Dir, nil)
 				f := m.makes(a, "f", api.File, nil)
 				m.makes(b, "d", api.Dir, nil)
+				m.safe()
+				do(m, root, a, b, f)
+			})
+		})
+	}
+}
+
+// P2: a thing with more names keeps one, whichever of them go.
+func TestJoinAlone(t *testing.T) {
+	for what, do := range map[string]func(m *machine, root, a, b, f *one){
+		"and its old name goes": func(m *machine, root, a, b, f *one) {
+			m.joins(b, "g", f)
+			m.cuts(a, "f")
+		},
+		"in a new directory": func(m *machine, root, a, b, f *one) {
+			n := m.makes(m.makes(root, "n", api.Dir, nil), "m", api.Dir, nil)
+			m.joins(n, "g", f)
+			m.cuts(a, "f")
+			m.cuts(root, "a")
+		},
+		"and its old name becomes another one's": func(m *machine, root, a, b, f *one) {
+			m.joins(b, "g", f)
+			m.makes(a, "h", api.File, nil)
+			m.shifts(a, "h", a, "f")
+		},
+		"again and again": func(m *machine, root, a, b, f *one) {
+			m.joins(b, "g", f)
+			m.joins(root, "h", f)
+			m.cuts(a, "f")
+			m.cuts(b, "g")
+			m.joins(a, "i", f)
+			m.cuts(root, "h")
+		},
+		"and the new one is shifted": func(m *machine, root, a, b, f *one) {
+			m.joins(b, "g", f)
+			m.shifts(b, "g", root, "g")
+			m.cuts(a, "f")
+			m.joins(a, "f", f)
+			m.shifts(root, "g", b, "g")
+			m.cuts(a, "f")
+		},
+	} {
+		t.Run(what, func(t *testing.T) {
+			alone(t, func(m *machine) {
+				m.t = t
+				root := m.all[1]
+				a, b := m.makes(root, "a", api.Dir, nil), m.makes(root, "b", api.Dir, nil)
+				f := m.makes(a, "f", api.File, nil)
 				m.safe()
 				do(m, root, a, b, f)
 			})

@@ -147,7 +147,7 @@ func (n *Nodes) Cut(dir int, name string) api.Errno {
 	if n.filled(slot) {
 		return api.ErrFilled
 	}
-	gone, e := n.dirs().Remove(dir, name, n.within(slot)...)
+	gone, e := n.dirs().Remove(dir, name, n.leaves(slot)...)
 	if e != api.OK {
 		return e
 	}
@@ -160,12 +160,18 @@ func (n *Nodes) filled(slot int) bool {
 	return len(list) > 0
 }
 
-// within lists the changes of a directory that must be safe ahead of its name's going: a name that was shifted out of it is lost with it, if the new one is not safe.
-func (n *Nodes) within(slot int) []int64 {
-	if n.directory(slot) != api.OK {
+// leaves lists the changes that must be safe ahead of a name's going from a slot's thing. Of a directory those of itself: a name that was shifted out of it is lost with it, if the new one is not safe. Of any other one those that gave it its other names: as long as it has one, one stands on the disk.
+func (n *Nodes) leaves(slot int) []int64 {
+	i, e := n.thing(slot)
+	switch {
+	case e != api.OK:
 		return nil
+	case i.Kind == api.Dir:
+		return n.files().Changes(slot)
+	case i.Links > 1:
+		return n.above(slot)
 	}
-	return n.files().Changes(slot)
+	return nil
 }
 
 // lose takes a link from a slot's thing, behind the change by which a name went; with the last one it is dropped, if it is not open.

@@ -85,7 +85,7 @@ func (n *Nodes) name(dir int, name string, slot int, after ...int64) (int64, api
 	if e != api.OK {
 		return n.dirs().Add(dir, name, slot, after...)
 	}
-	return n.dirs().Turn(dir, name, slot, append(after, n.within(old)...)...)
+	return n.dirs().Turn(dir, name, slot, append(after, n.leaves(old)...)...)
 }
 
 // behind lets all that a slot's thing loses from now on wait for a change by which a name of it went: as long as that stands on the disk the slot must not be another thing's.
@@ -98,30 +98,35 @@ func (n *Nodes) behind(slot int, gone int64) api.Errno {
 	return e
 }
 
-// above lists the changes, not safe yet, of all directories in which a directory stands, up to the root: those that gave it, and them, their names are among these.
-func (n *Nodes) above(dir int) []int64 {
+// above lists the changes, not safe yet, of all directories in which a slot's thing stands, and in which these stand, up to the root: those that gave it, and them, their names are among these.
+func (n *Nodes) above(slot int) []int64 {
 	var ids []int64
 	stands := n.stands()
-	for at, below := stands[dir]; below; at, below = stands[at] {
-		ids = append(ids, n.files().Changes(at)...)
+	met := map[int]struct{}{}
+	for left := []int{slot}; len(left) > 0; left = left[1:] {
+		for _, dir := range stands[left[0]] {
+			if _, again := met[dir]; again {
+				continue
+			}
+			met[dir] = struct{}{}
+			ids = append(ids, n.files().Changes(dir)...)
+			left = append(left, dir)
+		}
 	}
 	return ids
 }
 
-// stands tells of all that one comes to from the root in which directory it stands.
-func (n *Nodes) stands() map[int]int {
-	stands := map[int]int{}
-	left := []int{vol.Root}
-	for len(left) > 0 {
+// stands tells of all that one comes to from the root in which directories it stands, by each of its names.
+func (n *Nodes) stands() map[int][]int {
+	stands := map[int][]int{}
+	for left := []int{vol.Root}; len(left) > 0; left = left[1:] {
 		at := left[0]
-		left = left[1:]
 		list, _ := n.dirs().List(at)
 		for _, entry := range list {
-			if _, met := stands[entry.Slot]; met || entry.Slot == vol.Root {
-				continue
+			if len(stands[entry.Slot]) == 0 && entry.Slot != vol.Root {
+				left = append(left, entry.Slot)
 			}
-			stands[entry.Slot] = at
-			left = append(left, entry.Slot)
+			stands[entry.Slot] = append(stands[entry.Slot], at)
 		}
 	}
 	return stands
